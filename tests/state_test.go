@@ -246,8 +246,10 @@ func TestStatePodsAndNodes(t *testing.T) {
 		// What is not ok is counted as it comes.
 		{"two alike", impl.State{Pods: []impl.Pod{{Id: 3, Node: 1}, {Id: 3, Node: 1}}, Nodes: []impl.Node{{Id: 3}, {Id: 3}}, Groups: make([]impl.GroupState, 1)}, []pair{{}, {2, 2}}, []int{0, 2}},
 		{"a work that is not there", impl.State{Pods: []impl.Pod{{Work: -1}, {Work: 1, Node: 9}}}, []pair{{1, 0}, {}, {1, 1}}, []int{0, 0}},
-		{"a group that is not there", impl.State{Nodes: []impl.Node{{Group: -1}, {Group: 1}}, Groups: []impl.GroupState{{Asked: 4}}}, []pair{{}, {}}, []int{0, 4, 0}},
-		{"no groups", impl.State{Nodes: []impl.Node{{Group: 0}}}, []pair{{}}, []int{0, 0}},
+		{"a group that is not there", impl.State{Nodes: []impl.Node{{Group: -1}, {Group: 1}}, Groups: []impl.GroupState{{Asked: 4}}}, []pair{{}, {}}, []int{1, 4, 1, 0}},
+		{"a group just behind the last", impl.State{Nodes: []impl.Node{{Id: 1, Group: 1}}, Groups: []impl.GroupState{{Asked: 2}}, NextPod: 1, NextNode: 2}, []pair{{}, {}}, []int{0, 2, 1, 0}},
+		{"groups that are and are not there", impl.State{Nodes: []impl.Node{{Group: 2}, {Group: 0}, {Group: 2, Boot: 3}, {Group: -1}, {Group: 1}}, Groups: []impl.GroupState{{Asked: 3}, {}}}, []pair{{}}, []int{1, 4, 1, 2, 0}},
+		{"no groups", impl.State{Nodes: []impl.Node{{Group: 0}}}, []pair{{}}, []int{0, 1, 0}},
 		{"Wait below 0", impl.State{Pods: []impl.Pod{{Node: 1, Wait: -1}, {Wait: 0}, {Node: 1}}}, []pair{{}, {3, 1}}, []int{0}},
 		{"fewer than none asked for", impl.State{Nodes: []impl.Node{{Group: 0}}, Groups: []impl.GroupState{{Asked: -3}}}, []pair{{}}, []int{0, -2}},
 	} {
@@ -265,9 +267,28 @@ func TestStatePodsAndNodes(t *testing.T) {
 			if pods, ready := impl.StatePods(x.s, wild); wild != -1 && (pods != 0 || ready != 0) {
 				t.Errorf("%s: StatePods %d %d of the work %d", x.why, pods, ready, wild)
 			}
-			if n := impl.StateNodes(x.s, wild); n != 0 {
+			if n := impl.StateNodes(x.s, wild); wild != -1 && n != 0 {
 				t.Errorf("%s: StateNodes %d of the group %d", x.why, n, wild)
 			}
+		}
+	}
+}
+
+// How many nodes name a group is counted of groups of any number; only Asked hangs on there being such a group.
+func TestStateNodesOfAnyGroup(t *testing.T) {
+	for _, group := range wildNumbers {
+		for nodes := range 4 {
+			s := wideState()
+			for range nodes {
+				s.Nodes = append(s.Nodes, impl.Node{Id: s.NextNode, Group: group})
+				s.NextNode++
+			}
+			for g, want := range map[int]int{group: nodes, 0: 2, 1: 1, 2: 5} {
+				if n := impl.StateNodes(s, g); n != want {
+					t.Errorf("StateNodes %d of the group %d, want %d, where %d nodes are of %d", n, g, want, nodes, group)
+				}
+			}
+			wantState(t, "nodes of a group that is not there", wideCfg(), s, nodes == 0)
 		}
 	}
 }
