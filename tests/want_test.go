@@ -507,7 +507,9 @@ func TestWantOfNoWork(t *testing.T) {
 	}
 }
 
-func TestWantOfWrongState(t *testing.T) {
+// wrongLooks are lookState and lookCfg, each with something in it that is not ok.
+func wrongLooks() []stateCase {
+	var list []stateCase
 	for _, spoil := range []func(s *impl.State){
 		func(s *impl.State) { *s = impl.State{} },
 		func(s *impl.State) { s.Works = nil },
@@ -535,7 +537,7 @@ func TestWantOfWrongState(t *testing.T) {
 	} {
 		s := lookState()
 		spoil(&s)
-		wantNoLook(t, "not ok", lookCfg(), s)
+		list = append(list, stateCase{"not ok", lookCfg(), s})
 	}
 	for _, spoil := range []func(c *impl.Cfg){
 		func(c *impl.Cfg) { *c = impl.Cfg{} },
@@ -554,23 +556,26 @@ func TestWantOfWrongState(t *testing.T) {
 	} {
 		c := lookCfg()
 		spoil(&c)
-		wantNoLook(t, "of another Cfg", c, lookState())
+		list = append(list, stateCase{"of another Cfg", c, lookState()})
+	}
+	return list
+}
+
+func TestWantOfWrongState(t *testing.T) {
+	for _, x := range wrongLooks() {
+		wantNoLook(t, x.why, x.c, x.s)
 	}
 }
 
-// Numbers of any greatness in each field of what there is and of what is asked.
-func TestWantOfWildNumbers(t *testing.T) {
+// eachWild has do see what there is and what is asked with numbers of any greatness in each field in turn.
+func eachWild(do func(why string, c impl.Cfg, s impl.State)) {
 	for _, x := range append(okStates(), stateCase{"looked at", lookCfg(), lookState()}) {
 		s := copyState(x.s)
 		for _, at := range everyField(&s) {
 			was := *at
 			for _, n := range append([]int{-1, 0, 1, 2, 3, 4, 5, 8, 9, impl.CfgMaxLoad, impl.CfgMaxLoad + 1}, wildNumbers...) {
 				*at = n
-				if impl.StateOk(x.c, s) {
-					wantLook(t, x.why, x.c, s)
-				} else {
-					wantNoLook(t, x.why, x.c, s)
-				}
+				do(x.why, x.c, s)
 			}
 			*at = was
 		}
@@ -585,14 +590,20 @@ func TestWantOfWildNumbers(t *testing.T) {
 		was := *f.at
 		for _, n := range append([]int{f.least - 1, f.least, f.most, f.most + 1}, wildNumbers...) {
 			*f.at = n
-			if impl.StateOk(c, s) {
-				wantLook(t, f.why, c, s)
-			} else {
-				wantNoLook(t, f.why, c, s)
-			}
+			do(f.why, c, s)
 		}
 		*f.at = was
 	}
+}
+
+func TestWantOfWildNumbers(t *testing.T) {
+	eachWild(func(why string, c impl.Cfg, s impl.State) {
+		if impl.StateOk(c, s) {
+			wantLook(t, why, c, s)
+		} else {
+			wantNoLook(t, why, c, s)
+		}
+	})
 }
 
 // As many pods as there may be, with all that they can carry and the greatest load.
@@ -671,7 +682,36 @@ func TestWantOfManyWays(t *testing.T) {
 	}
 }
 
-// Neither the lists that are handed in nor what lies behind their ends are changed; an answer is new memory.
+// wantPlanMemory asks of a plan that neither the lists that are handed in nor what lies behind their ends are changed,
+// and that an answer is new memory.
+func wantPlanMemory(t *testing.T, x stateCase, plan func(c impl.Cfg, s impl.State) []impl.Write) {
+	t.Helper()
+	s, whole := spare(x.s)
+	was := copyState(whole)
+	c := copyCfg(x.c)
+	c.Works, c.Groups = slices.Concat(c.Works, wideCfg().Works)[:len(c.Works)], slices.Concat(c.Groups, wideCfg().Groups)[:len(c.Groups)]
+	asked := impl.Cfg{Works: slices.Clone(c.Works[:cap(c.Works)]), Groups: slices.Clone(c.Groups[:cap(c.Groups)])}
+	want := slices.Clone(plan(x.c, x.s))
+	a, b := plan(c, s), plan(c, s)
+	for i := range a[:cap(a)] {
+		a[:cap(a)][i] = impl.Write{Kind: 99, A: 99, B: 99, N: 99}
+	}
+	if !slices.Equal(b, want) {
+		t.Errorf("%s: two answers share memory, or are two: %v, want %v", x.why, b, want)
+	}
+	if again := plan(c, s); !slices.Equal(again, want) {
+		t.Errorf("%s: another answer once more: %v, want %v", x.why, again, want)
+	}
+	if !sameState(whole, was) || !sameState(s, x.s) || !sameCfg(c, x.c) ||
+		!slices.Equal(c.Works[:cap(c.Works)], asked.Works) || !slices.Equal(c.Groups[:cap(c.Groups)], asked.Groups) {
+		t.Errorf("%s: an argument was written into: %v of %v", x.why, whole, c)
+	}
+	scribble(whole, 97)
+	if !slices.Equal(b, want) {
+		t.Errorf("%s: an answer shares memory with its argument: %v", x.why, b)
+	}
+}
+
 func TestWantMemory(t *testing.T) {
 	lows := lookState()
 	for i := range lows.Works {
@@ -682,31 +722,12 @@ func TestWantMemory(t *testing.T) {
 		stateCase{"nothing", wideCfg(), impl.State{}}, stateCase{"not ok", plainCfg(), wideState()},
 	)
 	for _, x := range cases {
-		s, whole := spare(x.s)
-		was := copyState(whole)
-		c := copyCfg(x.c)
-		c.Works, c.Groups = slices.Concat(c.Works, wideCfg().Works)[:len(c.Works)], slices.Concat(c.Groups, wideCfg().Groups)[:len(c.Groups)]
-		asked := impl.Cfg{Works: slices.Clone(c.Works[:cap(c.Works)]), Groups: slices.Clone(c.Groups[:cap(c.Groups)])}
-		want := slices.Clone(impl.WantPlan(x.c, x.s))
-		a, b := impl.WantPlan(c, s), impl.WantPlan(c, s)
-		for i := range a[:cap(a)] {
-			a[:cap(a)][i] = impl.Write{Kind: 99, A: 99, B: 99, N: 99}
-		}
-		if !slices.Equal(b, want) {
-			t.Errorf("%s: two answers share memory, or are two: %v, want %v", x.why, b, want)
-		}
-		for work := range 4 {
-			wantRaw(t, x.why, c, s, work, impl.WantRaw(x.c, x.s, work))
-		}
-		wantPlan(t, x.why+", once more", c, s, want...)
-		if !sameState(whole, was) || !sameState(s, x.s) || !sameCfg(c, x.c) ||
-			!slices.Equal(c.Works[:cap(c.Works)], asked.Works) || !slices.Equal(c.Groups[:cap(c.Groups)], asked.Groups) {
-			t.Errorf("%s: an argument was written into: %v of %v", x.why, whole, c)
-		}
-		scribble(whole, 97)
-		if !slices.Equal(b, want) {
-			t.Errorf("%s: an answer shares memory with its argument: %v", x.why, b)
-		}
+		wantPlanMemory(t, x, func(c impl.Cfg, s impl.State) []impl.Write {
+			for work := range 4 {
+				wantRaw(t, x.why, c, s, work, impl.WantRaw(x.c, x.s, work))
+			}
+			return impl.WantPlan(c, s)
+		})
 	}
 }
 
