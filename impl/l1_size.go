@@ -61,6 +61,8 @@ func (a Size) plus(b Size) Size { return Size{Cpu: a.Cpu + b.Cpu, Mem: a.Mem + b
 
 func (a Size) minus(b Size) Size { return Size{Cpu: a.Cpu - b.Cpu, Mem: a.Mem - b.Mem} }
 
+func (a Size) together() int { return a.Cpu + a.Mem }
+
 func measureOk(n int) bool { return 0 <= n && n <= SizeMax }
 
 // slotsOfMeasure takes measures that are ok. One of which nothing is taken bounds nothing, so it leaves the other to say.
