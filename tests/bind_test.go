@@ -739,10 +739,9 @@ func wantNotBound(t *testing.T, why string, c impl.Cfg, s impl.State) {
 	}
 }
 
-func TestBindOfWrongState(t *testing.T) {
-	for _, x := range wrongLooks() {
-		wantNotBound(t, x.why, x.c, x.s)
-	}
+// wrongStates are all that is not ok in a part that somebody looks at who puts pods on nodes.
+func wrongStates() []stateCase {
+	list := wrongLooks()
 	for _, spoil := range []func(s *impl.State){
 		func(s *impl.State) { s.Pods[6].Node = 5 }, // too much Mem
 		func(s *impl.State) { s.Pods[3].Nom = 6 },  // a node that boots
@@ -750,6 +749,7 @@ func TestBindOfWrongState(t *testing.T) {
 		func(s *impl.State) { s.Pods[3].Nom = -5 },
 		func(s *impl.State) { s.Pods[3].Wait = 1 },
 		func(s *impl.State) { s.Pods[0].Nom = 2 },
+		func(s *impl.State) { s.Pods[0].Node = 7 },
 		func(s *impl.State) { s.Pods[4].Work = 3 },
 		func(s *impl.State) { s.Pods[4].Work = -1 },
 		func(s *impl.State) { s.Pods[4].Id = 6 },
@@ -764,11 +764,24 @@ func TestBindOfWrongState(t *testing.T) {
 		func(s *impl.State) { s.NextPod = 0 },
 		func(s *impl.State) { s.NextNode = 9 },
 	} {
-		wantNotBound(t, "not ok", wideCfg(), changed(spoil))
+		list = append(list, stateCase{"not ok", wideCfg(), changed(spoil)})
 	}
-	wantNotBound(t, "nothing at all", impl.Cfg{}, impl.State{})
-	wantNotBound(t, "nothing is asked", impl.Cfg{}, wideState())
-	wantNotBound(t, "of another Cfg", plainCfg(), wideState())
+	many := impl.State{NextPod: impl.StateMaxId, NextNode: impl.StateMaxId}
+	for i := range 2000 {
+		many.Pods, many.Nodes = append(many.Pods, impl.Pod{Id: i + 1, Work: i % 3}), append(many.Nodes, impl.Node{Id: i + 1})
+	}
+	return append(list,
+		stateCase{"many", wideCfg(), many},
+		stateCase{"nothing at all", impl.Cfg{}, impl.State{}},
+		stateCase{"nothing is asked", impl.Cfg{}, wideState()},
+		stateCase{"of another Cfg", plainCfg(), wideState()},
+	)
+}
+
+func TestBindOfWrongState(t *testing.T) {
+	for _, x := range wrongStates() {
+		wantNotBound(t, x.why, x.c, x.s)
+	}
 }
 
 // Pods and nodes that there are not, of any greatness.
@@ -809,11 +822,6 @@ func TestBindOfWildNumbers(t *testing.T) {
 			wantLeft(t, why, c, s, pod, 5, left, there)
 		}
 	})
-	many := impl.State{NextPod: impl.StateMaxId, NextNode: impl.StateMaxId}
-	for i := range 2000 {
-		many.Pods, many.Nodes = append(many.Pods, impl.Pod{Id: i + 1, Work: i % 3}), append(many.Nodes, impl.Node{Id: i + 1})
-	}
-	wantNotBound(t, "many", wideCfg(), many)
 }
 
 // bindCases are those of which the memory is asked, with plans that are long, go through all again, and are none.
@@ -848,27 +856,31 @@ func TestBindMemory(t *testing.T) {
 	}
 }
 
-// What BindOrder answers is new memory each time.
+// wantNewList asks that what is told in a list is new memory each time, and leaves what there is as it was.
+func wantNewList(t *testing.T, x stateCase, list func(s impl.State) []int) {
+	t.Helper()
+	s, whole := spare(x.s)
+	was := copyState(whole)
+	a, b := list(s), list(s)
+	want := slices.Clone(b)
+	for i := range a[:cap(a)] {
+		a[:cap(a)][i] = 99
+	}
+	if again := list(s); !slices.Equal(b, want) || !slices.Equal(again, want) {
+		t.Errorf("%s: two answers share memory: %v and %v, want %v", x.why, b, again, want)
+	}
+	if !sameState(whole, was) {
+		t.Errorf("%s: an argument was written into: %v", x.why, whole)
+	}
+	scribble(whole, 97)
+	if !slices.Equal(b, want) {
+		t.Errorf("%s: an answer shares memory with its argument: %v", x.why, b)
+	}
+}
+
 func TestBindOrderMemory(t *testing.T) {
 	for _, x := range bindCases() {
-		s, whole := spare(x.s)
-		was := copyState(whole)
-		a, b := impl.BindOrder(x.c, s), impl.BindOrder(x.c, s)
-		want := slices.Clone(b)
-		for i := range a[:cap(a)] {
-			a[:cap(a)][i] = 99
-		}
-		if !slices.Equal(b, want) {
-			t.Errorf("%s: two answers share memory: %v, want %v", x.why, b, want)
-		}
-		wantOrder(t, x.why+", once more", x.c, s, want...)
-		if !sameState(whole, was) {
-			t.Errorf("%s: an argument was written into: %v", x.why, whole)
-		}
-		scribble(whole, 97)
-		if !slices.Equal(b, want) {
-			t.Errorf("%s: an answer shares memory with its argument: %v", x.why, b)
-		}
+		wantNewList(t, x, func(s impl.State) []int { return impl.BindOrder(x.c, s) })
 	}
 }
 
