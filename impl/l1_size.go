@@ -61,6 +61,9 @@ func (a Size) plus(b Size) Size { return Size{Cpu: a.Cpu + b.Cpu, Mem: a.Mem + b
 
 func (a Size) minus(b Size) Size { return Size{Cpu: a.Cpu - b.Cpu, Mem: a.Mem - b.Mem} }
 
+// leftBehind is what is left of a size where more may be kept than there is: nothing is below 0 then.
+func (a Size) leftBehind(b Size) Size { return SizeMost(Size{}, a.minus(b)) }
+
 func (a Size) together() int { return a.Cpu + a.Mem }
 
 func measureOk(n int) bool { return 0 <= n && n <= SizeMax }
