@@ -696,6 +696,27 @@ func comes(s impl.State, group int, boot int) impl.State {
 	return s
 }
 
+// someTurn is what there is behind a turn of who finds places for pods, or when a node that was asked for has come, or all
+// have booted.
+func someTurn(seed *uint32, c impl.Cfg, s impl.State) impl.State {
+	s = copyState(s)
+	switch group := nextNumber(seed, len(c.Groups)); nextNumber(seed, 4) {
+	case 0:
+		s, _ = impl.WriteAll(c, s, impl.BindPlan(c, s))
+	case 1:
+		s, _ = impl.WriteAll(c, s, impl.OustPlan(c, s))
+	case 2:
+		if s.Groups[group].Asked > 0 {
+			s = comes(s, group, nextNumber(seed, 3))
+		}
+	case 3:
+		for i := range s.Nodes {
+			s.Nodes[i].Boot = 0
+		}
+	}
+	return s
+}
+
 // The components in turns, with each node that is asked for coming at some time: in the end nobody is left whom a group
 // could hold, and all that was asked for was so justly.
 func TestGrowInTurns(t *testing.T) {
@@ -703,23 +724,12 @@ func TestGrowInTurns(t *testing.T) {
 	for range 200 {
 		c, s := someLot(&seed)
 		for range 60 {
-			switch group := nextNumber(&seed, len(c.Groups)); nextNumber(&seed, 6) {
-			case 0:
-				s, _ = impl.WriteAll(c, s, impl.BindPlan(c, s))
-			case 1:
-				s, _ = impl.WriteAll(c, s, impl.OustPlan(c, s))
-			case 2:
-				if s.Groups[group].Asked > 0 {
-					s = comes(s, group, nextNumber(&seed, 3))
-				}
-			case 3:
-				for i := range s.Nodes {
-					s.Nodes[i].Boot = 0
-				}
-			default:
-				wantGrown(t, "in turns", c, s)
-				s, _ = impl.WriteAll(c, s, impl.GrowPlan(c, s))
+			if nextNumber(&seed, 3) > 0 {
+				s = someTurn(&seed, c, s)
+				continue
 			}
+			wantGrown(t, "in turns", c, s)
+			s, _ = impl.WriteAll(c, s, impl.GrowPlan(c, s))
 		}
 		for range impl.CfgNodes(c) {
 			s, _ = impl.WriteAll(c, s, impl.GrowPlan(c, s))
