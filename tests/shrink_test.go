@@ -64,10 +64,14 @@ func wantShrinkPlan(t *testing.T, why string, c impl.Cfg, s impl.State, want ...
 	}
 }
 
-// modelIdle is the chapter's ShrinkIdle once more, for any state.
+// modelIdle is the chapter's ShrinkIdle once more, for any state: of several nodes of the number the first is meant.
 func modelIdle(s impl.State, node int) bool {
-	lives := slices.ContainsFunc(s.Nodes, func(n impl.Node) bool { return n.Id == node && n.Boot == 0 })
-	return lives && !isLeantOn(s, node)
+	for _, n := range s.Nodes {
+		if n.Id == node {
+			return n.Boot == 0 && !isLeantOn(s, node)
+		}
+	}
+	return false
 }
 
 // modelGoers is all nodes that may go, for what is ok.
@@ -741,11 +745,85 @@ func TestShrinkIdleOfWrongState(t *testing.T) {
 		Nodes: []impl.Node{{Id: 9}, {Id: 5, Boot: 2}, {Id: 5}, {Id: 3}, {Id: -4}, {Id: 7}, {Id: 7, Boot: 1}, {Id: math.MaxInt}, {Id: math.MinInt}},
 		Pods:  []impl.Pod{{Id: 1, Node: 9, Nom: 3}, {Id: 1, Node: 8}, {Nom: math.MinInt}},
 	}
-	for node, want := range map[int]bool{9: false, 5: true, 3: false, -4: true, 7: true, 8: false, 0: false, 4: false, math.MaxInt: true, math.MinInt: false, math.MaxInt - 1: false} {
+	for node, want := range map[int]bool{9: false, 5: false, 3: false, -4: true, 7: true, 8: false, 0: false, 4: false, math.MaxInt: true, math.MinInt: false, math.MaxInt - 1: false} {
 		wantIdle(t, "by its own words", s, node, want)
 	}
 	wantIdle(t, "nothing", impl.State{}, 0, false)
 	wantIdle(t, "no nodes", impl.State{Pods: s.Pods}, 9, false)
+}
+
+// Of several nodes of one number the first is meant; pods and places go by the number alone.
+func TestShrinkIdleOfOneNumber(t *testing.T) {
+	const none, some = false, true
+	boots, lives, other := impl.Node{Id: 1, Boot: 1}, impl.Node{Id: 1}, impl.Node{Id: 2}
+	below, moreBoot, withLooks, ofOther := impl.Node{Id: 1, Boot: -1}, impl.Node{Id: 1, Boot: 2}, impl.Node{Id: 1, Idle: 3}, impl.Node{Id: 1, Group: 1}
+	for _, x := range []struct {
+		why   string
+		nodes []impl.Node
+		want  bool
+	}{
+		{"the first boots", []impl.Node{boots, lives}, none},
+		{"the first lives", []impl.Node{lives, boots}, some},
+		{"both live", []impl.Node{lives, lives}, some},
+		{"both boot", []impl.Node{boots, moreBoot}, none},
+		{"the first has a Boot below 0", []impl.Node{below, lives}, none},
+		{"the second has a Boot below 0", []impl.Node{lives, below}, some},
+		{"the first boots, and the second had its looks", []impl.Node{boots, withLooks}, none},
+		{"the first lives, and the second had its looks", []impl.Node{lives, withLooks}, some},
+		{"the first boots, and the second is of another group", []impl.Node{boots, ofOther}, none},
+		{"the first is of another group, and the second boots", []impl.Node{ofOther, boots}, some},
+		{"the first of three boots", []impl.Node{boots, lives, lives}, none},
+		{"the first of three lives", []impl.Node{lives, boots, boots}, some},
+		{"the middle one of three lives", []impl.Node{boots, lives, moreBoot}, none},
+		{"the middle one of three boots", []impl.Node{lives, boots, lives}, some},
+		{"behind another, the first boots", []impl.Node{other, boots, lives}, none},
+		{"behind another, the first lives", []impl.Node{other, lives, boots}, some},
+		{"with another between, the first boots", []impl.Node{boots, other, lives}, none},
+		{"with another between, the first lives", []impl.Node{lives, other, boots}, some},
+		{"one boots, and another lives behind it", []impl.Node{boots, other}, none},
+		{"one lives, and another boots ahead of it", []impl.Node{{Id: 2, Boot: 1}, lives}, some},
+	} {
+		s := impl.State{Nodes: x.nodes, NextPod: 1, NextNode: 3}
+		wantIdle(t, x.why, s, 1, x.want)
+		for _, p := range []impl.Pod{{Id: 1, Node: 2}, {Id: 1, Nom: 2}, {Id: 1}} {
+			s.Pods = []impl.Pod{p}
+			wantIdle(t, x.why+", and a pod is not on it", s, 1, x.want)
+		}
+		for _, p := range []impl.Pod{{Id: 1, Node: 1}, {Id: 1, Nom: 1}, {Id: 1, Node: 2, Nom: 1}} {
+			s.Pods = []impl.Pod{p}
+			wantIdle(t, x.why+", and a pod leans on it", s, 1, false)
+		}
+	}
+}
+
+// Four nodes of two numbers in all ways: nothing hangs on those that are not the first of their number.
+func TestShrinkIdleOfFirstAlone(t *testing.T) {
+	idle := 0
+	for way := range 6 * 6 * 6 * 6 * 3 {
+		s := impl.State{NextPod: 2, NextNode: 3}
+		left := way
+		for range 4 {
+			s.Nodes = append(s.Nodes, impl.Node{Id: 1 + left%2, Boot: left/2%3 - 1})
+			left /= 6
+		}
+		s.Pods = []impl.Pod{{Id: 1, Nom: left}}
+		for node := range 4 {
+			alone, want := copyState(s), false
+			alone.Nodes = slices.DeleteFunc(alone.Nodes, func(n impl.Node) bool { return n.Id != node })
+			if len(alone.Nodes) > 0 {
+				alone.Nodes = alone.Nodes[:1]
+				want = alone.Nodes[0].Boot == 0 && node != left
+			}
+			wantIdle(t, "the first alone", alone, node, want)
+			wantIdle(t, "the first of its number", s, node, want)
+			if want {
+				idle++
+			}
+		}
+	}
+	if idle < 500 {
+		t.Errorf("only %d are idle", idle)
+	}
 }
 
 // Numbers of nodes that there are not, of any greatness.
