@@ -852,18 +852,25 @@ func TestPlantMemory(t *testing.T) {
 	}
 }
 
-// Nothing is written into what is asked either, nor behind the ends of its lists.
+// wantKeepsCfg asks that nothing is written into what is asked, nor behind the ends of its lists.
+func wantKeepsCfg(t *testing.T, x stateCase, do func(c impl.Cfg)) {
+	t.Helper()
+	c := copyCfg(x.c)
+	c.Works, c.Groups = slices.Concat(c.Works, wideCfg().Works)[:len(c.Works)], slices.Concat(c.Groups, wideCfg().Groups)[:len(c.Groups)]
+	works, groups := slices.Clone(c.Works[:cap(c.Works)]), slices.Clone(c.Groups[:cap(c.Groups)])
+	do(c)
+	if !sameCfg(c, x.c) || !slices.Equal(c.Works[:cap(c.Works)], works) || !slices.Equal(c.Groups[:cap(c.Groups)], groups) {
+		t.Errorf("%s: what is asked was written into: %v", x.why, c)
+	}
+}
+
 func TestPlantKeepsCfg(t *testing.T) {
 	for _, x := range plantCases() {
-		c := copyCfg(x.c)
-		c.Works, c.Groups = slices.Concat(c.Works, wideCfg().Works)[:len(c.Works)], slices.Concat(c.Groups, wideCfg().Groups)[:len(c.Groups)]
-		works, groups := slices.Clone(c.Works[:cap(c.Works)]), slices.Clone(c.Groups[:cap(c.Groups)])
-		for _, o := range allOutside(x.s) {
-			o.do(c, x.s)
-		}
-		if !sameCfg(c, x.c) || !slices.Equal(c.Works[:cap(c.Works)], works) || !slices.Equal(c.Groups[:cap(c.Groups)], groups) {
-			t.Errorf("%s: what is asked was written into: %v", x.why, c)
-		}
+		wantKeepsCfg(t, x, func(c impl.Cfg) {
+			for _, o := range allOutside(x.s) {
+				o.do(c, x.s)
+			}
+		})
 	}
 }
 
